@@ -1,0 +1,1 @@
+"""Past views of a replicated tree."""

@@ -1,0 +1,1 @@
+"""The tests of the program, all through its interface."""
