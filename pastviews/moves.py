@@ -1,4 +1,4 @@
-"""A move of a node, and the order of the moves in time."""
+"""A move of a node, its place in the order of time, and the location that it asks for."""
 
 
 class Move:
@@ -16,3 +16,8 @@ class Move:
 def timestamp(move):
     """Return the timestamp as a pair that compares as timestamps do."""
     return (move.counter, move.origin)
+
+
+def target(move):
+    """Return the location at which the node is once the move has taken effect."""
+    return (move.parent, move.label)

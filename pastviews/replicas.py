@@ -4,7 +4,7 @@ from pastviews.refusals import NodeNotThere, NoSuchThing, OutOfRange, TooManyMov
 from pastviews.sessions import Session
 
 # How many numbers stand behind the number of each operation.
-ARGUMENT_COUNTS = {1: 1, 2: 4, 3: 2, 4: 2, 5: 4, 6: 5}
+ARGUMENT_COUNTS = {1: 1, 2: 4, 3: 2, 4: 2, 5: 4, 6: 5, 7: 5, 8: 7, 9: 2, 10: 2, 11: 1, 12: 1}
 
 
 def answers(calls):
@@ -48,4 +48,16 @@ def carried_out(session, operation, given):
         return session.sync(given[0], given[1])
     if operation == 5:
         return session.tree_at(given[0], given[1], given[2], given[3])
-    return session.ancestors(given[0], given[1], given[2], given[3], given[4])
+    if operation == 6:
+        return session.ancestors(given[0], given[1], given[2], given[3], given[4])
+    if operation == 7:
+        return session.moved_by(given[0], given[1], given[2], given[3], given[4])
+    if operation == 8:
+        return session.differences(given[0], given[1], given[2], given[3], given[4], given[5], given[6])
+    if operation == 9:
+        return session.history(given[0], given[1])
+    if operation == 10:
+        return session.since(given[0], given[1])
+    if operation == 11:
+        return session.surprises(given[0])
+    return session.known(given[0])

@@ -2,7 +2,9 @@
 
 from pastviews.moves import Move, timestamp
 from pastviews.refusals import NodeNotThere, NoSuchThing, OutOfRange, TooManyMoves
-from pastviews.trees import BIN, ROOT, exists, outcome_of, path_up, rows_below_root, tree_of
+from pastviews.trees import (
+    BIN, ROOT, effective_moves_of, exists, has_surprised, nodes_that_differ, outcome_of, path_up, rows_below_root,
+    tree_of)
 
 MOST_REPLICAS = 8
 MOST_MOVES = 80
@@ -79,6 +81,57 @@ class Session:
             raise NodeNotThere()
         path = path_up(tree, node)
         return [len(path)] + path
+
+    def moved_by(self, replica, i, counter, origin, node):
+        """Show the move that has put the node at its location in a view."""
+        effective = effective_moves_of(self.view(replica, i, counter, origin), node)
+        if not effective:
+            raise NodeNotThere()
+        mover = effective[-1]
+        return [mover.number, mover.counter, mover.origin, mover.parent, mover.label]
+
+    def differences(self, replica, i, counter, origin, j, counter2, origin2):
+        """List the nodes that have different locations in two views of a replica."""
+        tree = tree_of(self.view(replica, i, counter, origin))
+        other = tree_of(self.view(replica, j, counter2, origin2))
+        nodes = nodes_that_differ(tree, other)
+        return [len(nodes)] + nodes
+
+    def history(self, replica, node):
+        """List the moves of this node that have an effect among all that the replica knows."""
+        effective = effective_moves_of(self.moves_known_by(replica), node)
+        answer = [len(effective)]
+        for move in effective:
+            answer.extend([move.number, move.parent, move.label])
+        return answer
+
+    def since(self, replica, node):
+        """Tell after how many moves the replica began to see the node where it has seen it ever since."""
+        known = self.moves_known_by(replica)
+        if node > LAST_NODE:
+            raise OutOfRange()
+        location = tree_of(known).get(node)
+        i = len(known)
+        while i > 0 and tree_of(known[:i - 1]).get(node) == location:
+            i -= 1
+        return [i]
+
+    def surprises(self, replica):
+        """List the positions of the moves that have surprised the replica."""
+        known = self.moves_known_by(replica)
+        positions = []
+        before = {}
+        for position, move in enumerate(known):
+            after = tree_of(known[:position + 1])
+            if has_surprised(move, before, after):
+                positions.append(position)
+            before = after
+        return [len(positions)] + positions
+
+    def known(self, replica):
+        """List the numbers of the moves that a replica knows, in the order of learning."""
+        self.check_replica(replica)
+        return [len(self.learned[replica])] + self.learned[replica]
 
     def check_replica(self, replica):
         """Refuse the number of a replica that does not exist."""

@@ -4,7 +4,7 @@ A tree is a dict from each node that has a location to this location: its parent
 The root and the bin have none, so they are never in the dict, and an empty dict is the first tree.
 """
 
-from pastviews.moves import timestamp
+from pastviews.moves import target, timestamp
 
 ROOT = 0
 BIN = 1
@@ -36,13 +36,38 @@ def outcome_of(tree, move):
     return MOVED
 
 
+def effective_moves(moves):
+    """Return those of the moves that have the outcome 1 among them, in the order of the timestamps."""
+    tree = {}
+    effective = []
+    for move in sorted(moves, key=timestamp):
+        if outcome_of(tree, move) == MOVED:
+            tree[move.node] = target(move)
+            effective.append(move)
+    return effective
+
+
+def effective_moves_of(moves, node):
+    """Return those of the effective moves that concern this node, in the order of the timestamps."""
+    return [move for move in effective_moves(moves) if move.node == node]
+
+
 def tree_of(moves):
     """Return the tree that results from the moves, which may come in any order."""
     tree = {}
-    for move in sorted(moves, key=timestamp):
-        if outcome_of(tree, move) == MOVED:
-            tree[move.node] = (move.parent, move.label)
+    for move in effective_moves(moves):
+        tree[move.node] = target(move)
     return tree
+
+
+def nodes_that_differ(tree, other):
+    """Return the nodes that have different locations in two trees, or one in only one of them, ascending."""
+    return [node for node in sorted(set(tree) | set(other)) if tree.get(node) != other.get(node)]
+
+
+def has_surprised(move, before, after):
+    """Tell whether learning of the move has changed the tree in another way than the move asks for."""
+    return any([node != move.node or after.get(node) != target(move) for node in nodes_that_differ(before, after)])
 
 
 def descending_children(tree):

@@ -34,6 +34,30 @@ def ancestors(replica, i, node, counter=GREATEST, origin=GREATEST):
     return [6, replica, i, counter, origin, node]
 
 
+def moved_by(replica, i, node, counter=GREATEST, origin=GREATEST):
+    return [7, replica, i, counter, origin, node]
+
+
+def differences(replica, i, j, stamp=(GREATEST, GREATEST), other_stamp=(GREATEST, GREATEST)):
+    return [8, replica, i, stamp[0], stamp[1], j, other_stamp[0], other_stamp[1]]
+
+
+def history(replica, node):
+    return [9, replica, node]
+
+
+def since(replica, node):
+    return [10, replica, node]
+
+
+def surprises(replica):
+    return [11, replica]
+
+
+def known(replica):
+    return [12, replica]
+
+
 def joined(calls):
     return [number for call in calls for number in call]
 
@@ -41,6 +65,8 @@ def joined(calls):
 def ask(calls):
     """Return the answer to each of the calls, as a list of lists."""
     handed_in = joined(calls)
+    if len(calls) > 200 or len(handed_in) > 1600:
+        raise AssertionError("more calls than one list may have")
     before = list(handed_in)
     given_back = answers(handed_in)
     if handed_in != before:
@@ -81,7 +107,7 @@ def lasts(calls, questions):
 
 
 def listing(*rows):
-    """Return the answer of tree_at with these rows of node, depth and label."""
+    """Return the answer with these rows: node, depth and label in tree_at, or move, parent and label in history."""
     return [len(rows)] + [number for row in rows for number in row]
 
 

@@ -3,7 +3,9 @@
 import random
 import unittest
 
-from tests.asking import GREATEST, ancestors, ask, begin, deliver, move, sync, tree_at
+from tests.asking import (
+    GREATEST, ancestors, ask, begin, deliver, differences, history, known, move, moved_by, since, surprises, sync,
+    tree_at)
 
 
 class Slow:
@@ -14,8 +16,10 @@ class Slow:
         self.known = {0: []}
 
     def answer(self, call):
-        return {1: self.begin, 2: self.move, 3: self.deliver, 4: self.sync, 5: self.tree_at, 6: self.ancestors}[
-            call[0]](*call[1:])
+        operations = [
+            self.begin, self.move, self.deliver, self.sync, self.tree_at, self.ancestors, self.moved_by,
+            self.differences, self.history, self.since, self.surprises, self.list_known]
+        return operations[call[0] - 1](*call[1:])
 
     def begin(self, replicas):
         if not 1 <= replicas <= 8:
@@ -118,6 +122,75 @@ class Slow:
             path.append(parents[path[-1]])
         return [len(path)] + path
 
+    def location(self, result, node):
+        parents, labels, outcomes = result
+        return (parents[node], labels[node]) if node in labels else None
+
+    def effective(self, outcomes, node):
+        """Return timestamp and number of the moves of the node with the outcome 1, the earliest first."""
+        return sorted([(self.made[number][:2], number) for number in outcomes
+                       if outcomes[number] == 1 and self.made[number][2] == node])
+
+    def moved_by(self, replica, i, counter, origin, node):
+        refusal = self.refusal(replica, i)
+        if refusal:
+            return refusal
+        result = self.view(replica, i, counter, origin)
+        if self.location(result, node) is None:
+            return [-3]
+        number = self.effective(result[2], node)[-1][1]
+        counter, origin, node, parent, label = self.made[number]
+        return [number, counter, origin, parent, label]
+
+    def changed(self, result, other):
+        return [node for node in range(64) if self.location(result, node) != self.location(other, node)]
+
+    def differences(self, replica, i, counter, origin, j, counter2, origin2):
+        refusal = self.refusal(replica, max(i, j))
+        if refusal:
+            return refusal
+        nodes = self.changed(self.view(replica, i, counter, origin), self.view(replica, j, counter2, origin2))
+        return [len(nodes)] + nodes
+
+    def saw(self, replica):
+        """Return what the replica saw after no move, after one, and so on up to now."""
+        return [self.result(self.known[replica][:i]) for i in range(len(self.known[replica]) + 1)]
+
+    def history(self, replica, node):
+        if replica not in self.known:
+            return [-2]
+        answer = []
+        for stamp, number in self.effective(self.saw(replica)[-1][2], node):
+            answer += [number, self.made[number][3], self.made[number][4]]
+        return [len(answer) // 3] + answer
+
+    def since(self, replica, node):
+        if replica not in self.known:
+            return [-2]
+        if node > 63:
+            return [-1]
+        locations = [self.location(result, node) for result in self.saw(replica)]
+        return [min(i for i in range(len(locations)) if set(locations[i:]) == {locations[-1]})]
+
+    def surprises(self, replica):
+        if replica not in self.known:
+            return [-2]
+        saw = self.saw(replica)
+        positions = []
+        for i, number in enumerate(self.known[replica]):
+            node, parent, label = self.made[number][2:]
+            changed = self.changed(saw[i], saw[i + 1])
+            another = [one for one in changed if one != node]
+            elsewhere = node in changed and self.location(saw[i + 1], node) != (parent, label)
+            if another or elsewhere:
+                positions.append(i)
+        return [len(positions)] + positions
+
+    def list_known(self, replica):
+        if replica not in self.known:
+            return [-2]
+        return [len(self.known[replica])] + self.known[replica]
+
 
 def number(chance, end):
     """Return mostly a number below the end, and now and then the end or one far off."""
@@ -134,21 +207,34 @@ def stamp(chance):
 
 
 def any_call(chance, replicas, nodes, moves):
-    kind = chance.randrange(100)
+    kind = chance.randrange(200)
     replica = number(chance, replicas)
     if kind == 0:
         return begin(number(chance, 9))
-    if kind < 40:
-        return move(replica, 2 + number(chance, nodes - 2), number(chance, nodes), number(chance, 1000000001))
-    if kind < 60:
+    if kind < 70:
+        # Few labels make it likely that a node comes again to a location at which it was.
+        label = number(chance, chance.choice((2, 1000000001)))
+        return move(replica, 2 + number(chance, nodes - 2), number(chance, nodes), label)
+    if kind < 105:
         return deliver(number(chance, moves + 1), replica)
-    if kind < 65:
+    if kind < 110:
         return sync(replica, number(chance, replicas))
+    return any_question(chance, replica, nodes, moves)
+
+
+def any_question(chance, replica, nodes, moves):
     i = number(chance, moves // 2 + 1)
     counter, origin = stamp(chance)
-    if kind < 85:
-        return tree_at(replica, i, counter, origin)
-    return ancestors(replica, i, number(chance, nodes), counter, origin)
+    node = number(chance, nodes)
+    return chance.choice((
+        tree_at(replica, i, counter, origin),
+        ancestors(replica, i, node, counter, origin),
+        moved_by(replica, i, node, counter, origin),
+        differences(replica, i, number(chance, moves // 2 + 1), (counter, origin), stamp(chance)),
+        history(replica, node),
+        since(replica, node),
+        surprises(replica),
+        known(replica)))
 
 
 def any_calls(chance):
